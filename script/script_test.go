@@ -454,7 +454,7 @@ func TestBelowOfAllDraws(t *testing.T) {
 
 // P15.4: as many bytes are read as m needs, no more, no fewer, at each number of bits.
 func TestBelowReadsWhatItNeeds(t *testing.T) {
-	for bit := 1; bit < 64*300; bit += 1 + bit/200*3 {
+	for bit := 1; bit < 64*300; bit++ {
 		m := single(300, bit/64, 1<<(bit%64))
 		size := bit/8 + 1
 		one := laid(alike(0, size-1), []byte{1})
